@@ -1,0 +1,1 @@
+"""Exact matrices of rationals: the calls stand in exactmatrices.desk."""

@@ -1,0 +1,95 @@
+"""The calls. Each takes whole numbers and lists of whole numbers and gives back a list of whole numbers:
+a refusal alone, or 0 and behind it what is answered.
+"""
+
+from exactmatrices.characteristic import characteristic
+from exactmatrices.echelons import determinant, inverse, kernel, reduced_echelon
+from exactmatrices.matrices import above, added, beside, product, subtracted, turned
+from exactmatrices.telling import GREATEST_SIDE, is_matrix, matrix_from, numbers_from
+
+NO_MATRIX = -6
+NOT_FIT = -1
+NO_ANSWER = -4
+
+
+def answer(matrix):
+    return [0] + numbers_from(matrix)
+
+
+def fits_two(op, a, b):
+    """Whether op is one of two's and the shapes of a and b fit it."""
+    same_rows = len(a) == len(b)
+    same_columns = len(a[0]) == len(b[0])
+    if op == 0 or op == 1:
+        return same_rows and same_columns
+    if op == 2:
+        return len(a[0]) == len(b)
+    if op == 3:
+        return same_rows and len(a[0]) + len(b[0]) <= GREATEST_SIDE
+    if op == 4:
+        return same_columns and len(a) + len(b) <= GREATEST_SIDE
+    return False
+
+
+def result_of_two(op, a, b):
+    if op == 0:
+        return added(a, b)
+    if op == 1:
+        return subtracted(a, b)
+    if op == 2:
+        return product(a, b)
+    if op == 3:
+        return beside(a, b)
+    return above(a, b)
+
+
+def two(op, a, b):
+    """op 0: a + b; 1: a - b; 2: a b; 3: a beside b; 4: a above b."""
+    if not is_matrix(a) or not is_matrix(b):
+        return [NO_MATRIX]
+    first = matrix_from(a)
+    second = matrix_from(b)
+    if not fits_two(op, first, second):
+        return [NOT_FIT]
+    return answer(result_of_two(op, first, second))
+
+
+def fits_one(op, a):
+    """Whether op is one of one's and the shape of a fits it."""
+    square = len(a) == len(a[0])
+    if op == 4:
+        # The polynomial has one place more than a has rows, and is itself to be a matrix.
+        return square and len(a) < GREATEST_SIDE
+    if op == 3 or op == 5:
+        return square
+    return 0 <= op <= 2
+
+
+def result_of_one(op, a):
+    """What op makes of a; None if there's no such thing."""
+    if op == 0:
+        return turned(a)
+    if op == 1:
+        return reduced_echelon(a)
+    if op == 2:
+        return kernel(a)
+    if op == 3:
+        return [[determinant(a)]]
+    if op == 4:
+        return [characteristic(a)]
+    return inverse(a)
+
+
+def one(op, a):
+    """op 0: a turned about; 1: its reduced echelon; 2: its kernel; 3: its determinant;
+    4: its characteristic polynomial; 5: its inverse.
+    """
+    if not is_matrix(a):
+        return [NO_MATRIX]
+    matrix = matrix_from(a)
+    if not fits_one(op, matrix):
+        return [NOT_FIT]
+    result = result_of_one(op, matrix)
+    if result is None:
+        return [NO_ANSWER]
+    return answer(result)
