@@ -1,32 +1,11 @@
 """The characteristic polynomial, by the way of Faddeev and Le Verrier."""
 
 from exactmatrices.quotients import all_multiplied, divided_row, scale_of, whole_row
-
-
-def combined_row(factors, rows):
-    """The sum of the rows, each times its factor."""
-    result = [0] * len(rows[0])
-    for factor, row in zip(factors, rows):
-        result = [x + factor * y for x, y in zip(result, row)]
-    return result
-
-
-def shrunk_row(row, divisor):
-    """The row by a divisor of all its numbers."""
-    return [x // divisor for x in row]
+from exactmatrices.wholes import combined_row, shrunk_row, with_diagonal
 
 
 def trace(rows):
     return sum([row[k] for k, row in enumerate(rows)])
-
-
-def with_added(row, place, number):
-    return [x + number if k == place else x for k, x in enumerate(row)]
-
-
-def with_diagonal(rows, number):
-    """The rows with the number added all along the diagonal."""
-    return [with_added(row, k, number) for k, row in enumerate(rows)]
 
 
 def characteristic(a):

@@ -4,12 +4,15 @@ a refusal alone, or 0 and behind it what is answered.
 
 from exactmatrices.characteristic import characteristic
 from exactmatrices.echelons import determinant, inverse, kernel, reduced_echelon
-from exactmatrices.matrices import above, added, beside, product, subtracted, turned
+from exactmatrices.matrices import above, added, beside, is_square, part_of, product, subtracted, turned
+from exactmatrices.powers import raised
 from exactmatrices.telling import GREATEST_SIDE, is_matrix, matrix_from, numbers_from
 
 NO_MATRIX = -6
 NOT_FIT = -1
 NO_ANSWER = -4
+
+GREATEST_EXPONENT = 64
 
 
 def answer(matrix):
@@ -56,12 +59,11 @@ def two(op, a, b):
 
 def fits_one(op, a):
     """Whether op is one of one's and the shape of a fits it."""
-    square = len(a) == len(a[0])
     if op == 4:
         # The polynomial has one place more than a has rows, and is itself to be a matrix.
-        return square and len(a) < GREATEST_SIDE
+        return is_square(a) and len(a) < GREATEST_SIDE
     if op == 3 or op == 5:
-        return square
+        return is_square(a)
     return 0 <= op <= 2
 
 
@@ -93,3 +95,28 @@ def one(op, a):
     if result is None:
         return [NO_ANSWER]
     return answer(result)
+
+
+def lies_within(start, count, size):
+    """Whether count places from start on are one place or more, none of them beyond size."""
+    return start >= 0 and count >= 1 and start + count <= size
+
+
+def part(row, rows, column, columns, a):
+    """So many rows from row on, so many columns from column on, counted from 0."""
+    if not is_matrix(a):
+        return [NO_MATRIX]
+    matrix = matrix_from(a)
+    if not lies_within(row, rows, len(matrix)) or not lies_within(column, columns, len(matrix[0])):
+        return [NOT_FIT]
+    return answer(part_of(matrix, row, rows, column, columns))
+
+
+def power(k, a):
+    """a times itself, k times as a factor."""
+    if not is_matrix(a):
+        return [NO_MATRIX]
+    matrix = matrix_from(a)
+    if not is_square(matrix) or not 0 <= k <= GREATEST_EXPONENT:
+        return [NOT_FIT]
+    return answer(raised(matrix, k))

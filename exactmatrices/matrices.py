@@ -48,6 +48,15 @@ def above(a, b):
     return a + b
 
 
+def is_square(a):
+    return len(a) == len(a[0])
+
+
+def part_of(a, row, rows, column, columns):
+    """So many rows from row on, so many columns from column on, counted from 0."""
+    return [chosen[column:column + columns] for chosen in a[row:row + rows]]
+
+
 def unit_row(size, place):
     return [(1, 1) if k == place else (0, 1) for k in range(size)]
 

@@ -36,6 +36,22 @@ def lowest(top, bottom):
     return (top // divisor, bottom // divisor)
 
 
+def lowest_by_base(top, bottom, base):
+    """The quotient of top by a bottom above 0, each prime factor of which divides base.
+
+    As base is small beside a long product's bottom, this is far cheaper than to seek their common divisor outright.
+    """
+    if top == 0:
+        return (0, 1)
+    common = common_divisor(top, common_divisor(bottom, base))
+    while common != 1:
+        top = top // common
+        bottom = bottom // common
+        # What is still in common has no other prime factors than what was taken out last.
+        common = common_divisor(top, common_divisor(bottom, common))
+    return (top, bottom)
+
+
 def plus(x, y):
     return lowest(x[0] * y[1] + y[0] * x[1], x[1] * y[1])
 
@@ -61,6 +77,14 @@ def scale_of(row):
     scale = 1
     for x in row:
         scale = common_multiple(scale, x[1])
+    return scale
+
+
+def scale_of_all(rows):
+    """The least whole number above 0 that makes every quotient of the rows whole."""
+    scale = 1
+    for row in rows:
+        scale = common_multiple(scale, scale_of(row))
     return scale
 
 

@@ -2,10 +2,13 @@
 
 import unittest
 
+from calls import OF_ONE_LIST, OF_TWO_LISTS
 from exactmatrices.desk import one, two
 from reckoning import BOUND
 
 GOOD = [2, 2, 1, 1, 2, 1, 3, 1, 4, 1]
+WIDE = [2, 3] + [1, 2] * 6
+NOTHING = [1, 1, 0, 1]
 
 NO_MATRICES = (
     [],
@@ -60,17 +63,18 @@ NO_MATRICES = (
 
 class NoMatrix(unittest.TestCase):
 
-    def test_one(self):
+    def test_in_the_one_place(self):
         for numbers in NO_MATRICES:
-            for op in range(6):
-                self.assertEqual(one(op, numbers), [-6], numbers[:4])
+            for call in OF_ONE_LIST:
+                self.assertEqual(call(numbers), [-6], numbers[:4])
 
-    def test_two_in_either_place(self):
+    def test_in_either_place(self):
         for numbers in NO_MATRICES:
-            for op in range(5):
-                self.assertEqual(two(op, numbers, GOOD), [-6], numbers[:4])
-                self.assertEqual(two(op, GOOD, numbers), [-6], numbers[:4])
-                self.assertEqual(two(op, numbers, numbers), [-6], numbers[:4])
+            for call in OF_TWO_LISTS:
+                for other in (GOOD, WIDE, NOTHING):
+                    self.assertEqual(call(numbers, other), [-6], numbers[:4])
+                    self.assertEqual(call(other, numbers), [-6], numbers[:4])
+                self.assertEqual(call(numbers, numbers), [-6], numbers[:4])
 
 
 class Taken(unittest.TestCase):
