@@ -6,31 +6,36 @@ from exactmatrices.characteristic import characteristic
 from exactmatrices.echelons import determinant, inverse, kernel, reduced_echelon
 from exactmatrices.matrices import above, added, beside, is_square, part_of, product, subtracted, turned
 from exactmatrices.powers import raised
+from exactmatrices.systems import has_free_columns, has_no_solution, solution, system_of, total_from, total_system
 from exactmatrices.telling import GREATEST_SIDE, is_matrix, matrix_from, numbers_from
 
 NO_MATRIX = -6
 NOT_FIT = -1
 NO_ANSWER = -4
+NOT_ONE = -5
 
 GREATEST_EXPONENT = 64
+GREATEST_TOTAL = 4
 
 
 def answer(matrix):
     return [0] + numbers_from(matrix)
 
 
+def same_shape(a, b):
+    return len(a) == len(b) and len(a[0]) == len(b[0])
+
+
 def fits_two(op, a, b):
     """Whether op is one of two's and the shapes of a and b fit it."""
-    same_rows = len(a) == len(b)
-    same_columns = len(a[0]) == len(b[0])
     if op == 0 or op == 1:
-        return same_rows and same_columns
+        return same_shape(a, b)
     if op == 2:
         return len(a[0]) == len(b)
     if op == 3:
-        return same_rows and len(a[0]) + len(b[0]) <= GREATEST_SIDE
+        return len(a) == len(b) and len(a[0]) + len(b[0]) <= GREATEST_SIDE
     if op == 4:
-        return same_columns and len(a) + len(b) <= GREATEST_SIDE
+        return len(a[0]) == len(b[0]) and len(a) + len(b) <= GREATEST_SIDE
     return False
 
 
@@ -120,3 +125,42 @@ def power(k, a):
     if not is_square(matrix) or not 0 <= k <= GREATEST_EXPONENT:
         return [NOT_FIT]
     return answer(raised(matrix, k))
+
+
+def refusal_of(system):
+    """What equations are refused with; 0 if they have just one solution."""
+    if has_no_solution(system):
+        return NO_ANSWER
+    if has_free_columns(system):
+        return NOT_ONE
+    return 0
+
+
+def solve(a, b):
+    """The one x with a x = b."""
+    if not is_matrix(a) or not is_matrix(b):
+        return [NO_MATRIX]
+    first = matrix_from(a)
+    second = matrix_from(b)
+    if len(first) != len(second):
+        return [NOT_FIT]
+    system = system_of(first, second)
+    refusal = refusal_of(system)
+    if refusal != 0:
+        return [refusal]
+    return answer(solution(system))
+
+
+def total(a, q):
+    """The one x with x = a x a' + q."""
+    if not is_matrix(a) or not is_matrix(q):
+        return [NO_MATRIX]
+    first = matrix_from(a)
+    second = matrix_from(q)
+    if not is_square(first) or not same_shape(first, second) or len(first) > GREATEST_TOTAL:
+        return [NOT_FIT]
+    system = total_system(first, second)
+    refusal = refusal_of(system)
+    if refusal != 0:
+        return [refusal]
+    return answer(total_from(system, len(first)))

@@ -60,6 +60,10 @@ def minus(x, y):
     return lowest(x[0] * y[1] - y[0] * x[1], x[1] * y[1])
 
 
+def times(x, y):
+    return lowest(x[0] * y[0], x[1] * y[1])
+
+
 def paired_sum(xs, ys):
     """The sum of the products of what stands at the same place."""
     # The sum is brought to lowest terms once, at its end: that's dearer than all the products together.

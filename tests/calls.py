@@ -1,6 +1,6 @@
 """Every call of the program, as functions of the lists alone: with numbers that are taken and with ones that are not."""
 
-from exactmatrices.desk import one, part, power, two
+from exactmatrices.desk import one, part, power, solve, total, two
 
 FAR = 2 ** 64
 
@@ -28,6 +28,7 @@ OF_ONE_LIST = (
 )
 OF_TWO_LISTS = (
     [two_at(op) for op in (-FAR, -1, 0, 1, 2, 3, 4, 5, FAR)]
+    + [solve, total]
 )
 
 
