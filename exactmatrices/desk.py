@@ -3,9 +3,10 @@ a refusal alone, or 0 and behind it what is answered.
 """
 
 from exactmatrices.characteristic import characteristic
-from exactmatrices.echelons import determinant, inverse, kernel, reduced_echelon
+from exactmatrices.echelons import determinant, inverse, kernel, rank_of, reduced_echelon
 from exactmatrices.matrices import above, added, beside, is_square, part_of, product, subtracted, turned
 from exactmatrices.powers import raised
+from exactmatrices.reaching import reached
 from exactmatrices.systems import has_free_columns, has_no_solution, solution, system_of, total_from, total_system
 from exactmatrices.telling import GREATEST_SIDE, is_matrix, matrix_from, numbers_from
 
@@ -164,3 +165,21 @@ def total(a, q):
     if refusal != 0:
         return [refusal]
     return answer(total_from(system, len(first)))
+
+
+def rank(a):
+    """How many rows of the reduced echelon aren't 0."""
+    if not is_matrix(a):
+        return [NO_MATRIX]
+    return [0, rank_of(matrix_from(a))]
+
+
+def reach(a, b):
+    """The rank of b, a b, a a b, ... beside each other, as many as a has rows."""
+    if not is_matrix(a) or not is_matrix(b):
+        return [NO_MATRIX]
+    first = matrix_from(a)
+    second = matrix_from(b)
+    if not is_square(first) or len(first) != len(second):
+        return [NOT_FIT]
+    return [0, reached(first, second)]

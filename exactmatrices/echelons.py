@@ -1,4 +1,4 @@
-"""Elimination, and what is read off from it: the reduced echelon, the kernel, the determinant, the inverse."""
+"""Elimination, and what is read off from it: reduced echelon, rank, kernel, determinant, inverse."""
 
 from exactmatrices.matrices import beside, turned, unit, unit_row
 from exactmatrices.quotients import all_multiplied, divided_row, lowest, scale_of, whole_row
@@ -78,6 +78,10 @@ def eliminated_from(a):
 def reduced_echelon(a):
     done = eliminated_from(a)
     return [divided_row(row, done.lead) for row in done.rows]
+
+
+def rank_of(a):
+    return len(eliminated_from(a).begins)
 
 
 def kernel_column(done, size, free):

@@ -3,6 +3,11 @@
 from exactmatrices.quotients import common_divisor
 
 
+def paired_total(row, other):
+    """The sum of the products of what stands at the same place."""
+    return sum([x * y for x, y in zip(row, other)])
+
+
 def combined_row(factors, rows):
     """The sum of the rows, each times its factor."""
     result = [0] * len(rows[0])

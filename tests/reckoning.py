@@ -98,6 +98,27 @@ def kernel(a):
     return turned(columns) if columns else None
 
 
+def rest_of(x, prime):
+    """A quotient as a rest by a prime."""
+    return x.numerator * pow(x.denominator, -1, prime) % prime
+
+
+def rank_in_rests(rows, prime):
+    """The rank of a matrix of rests by a prime."""
+    rows = [list(row) for row in rows]
+    rank = 0
+    for column in range(len(rows[0])):
+        found = [k for k in range(rank, len(rows)) if rows[k][column]]
+        if found:
+            rows[rank], rows[found[0]] = rows[found[0]], rows[rank]
+            inverse = pow(rows[rank][column], -1, prime)
+            for k in range(rank + 1, len(rows)):
+                factor = rows[k][column] * inverse
+                rows[k] = [(x - factor * y) % prime for x, y in zip(rows[k], rows[rank])]
+            rank += 1
+    return rank
+
+
 class Source:
     """Matrices drawn in an order that is the same each time."""
 

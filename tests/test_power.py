@@ -3,7 +3,7 @@ import unittest
 from fractions import Fraction
 
 from exactmatrices.desk import power, two
-from reckoning import BOUND, Source, answered, identity, product, read, told
+from reckoning import BOUND, Source, answered, identity, product, read, rest_of, told
 
 FAR = 2 ** 64
 # 1 2 over 3 4
@@ -24,7 +24,7 @@ def raised(a, k):
 
 def raised_in_rests(a, k, prime):
     """The power's entries as rests by a prime."""
-    rests = [[x.numerator * pow(x.denominator, -1, prime) % prime for x in row] for row in a]
+    rests = [[rest_of(x, prime) for x in row] for row in a]
     result = [[int(i == j) for j in range(len(a))] for i in range(len(a))]
     for _ in range(k):
         result = [[sum(x * y for x, y in zip(row, column)) % prime for column in zip(*rests)] for row in result]
