@@ -4,7 +4,10 @@ a refusal alone, or 0 and behind it what is answered.
 
 from exactmatrices.characteristic import characteristic
 from exactmatrices.echelons import determinant, inverse, kernel, rank_of, reduced_echelon
+from exactmatrices.forms import signs_of
 from exactmatrices.matrices import above, added, beside, is_square, part_of, product, subtracted, turned
+from exactmatrices.polynomials import common_of, multiplied, opposite, polynomial_from
+from exactmatrices.polynomials import quotient_of, rest_of, row_of, sum_of
 from exactmatrices.powers import raised
 from exactmatrices.reaching import reached
 from exactmatrices.systems import has_free_columns, has_no_solution, solution, system_of, total_from, total_system
@@ -183,3 +186,46 @@ def reach(a, b):
     if not is_square(first) or len(first) != len(second):
         return [NOT_FIT]
     return [0, reached(first, second)]
+
+
+def signs(a):
+    """How many squares the form x' a x has with +, how many with -, how many are missing to as many as rows."""
+    if not is_matrix(a):
+        return [NO_MATRIX]
+    matrix = matrix_from(a)
+    if not is_square(matrix) or matrix != turned(matrix):
+        return [NOT_FIT]
+    return [0] + signs_of(matrix)
+
+
+def result_of_poly(op, f, g):
+    if op == 0:
+        return sum_of(f, g)
+    if op == 1:
+        return sum_of(f, opposite(g))
+    if op == 2:
+        return multiplied(f, g)
+    if op == 3:
+        return quotient_of(f, g)
+    if op == 4:
+        return rest_of(f, g)
+    return common_of(f, g)
+
+
+def poly(op, f, g):
+    """op 0: f + g; 1: f - g; 2: f g; 3: the quotient of f by g; 4: the rest; 5: the greatest common divisor."""
+    if not is_matrix(f) or not is_matrix(g):
+        return [NO_MATRIX]
+    first = matrix_from(f)
+    second = matrix_from(g)
+    if len(first) > 1 or len(second) > 1 or not 0 <= op <= 5:
+        return [NOT_FIT]
+    x = polynomial_from(first[0])
+    y = polynomial_from(second[0])
+    if (op == 3 or op == 4) and y.whole == []:
+        return [NO_ANSWER]
+    result = row_of(result_of_poly(op, x, y))
+    # Only a product can be as long as that.
+    if len(result) > GREATEST_SIDE:
+        return [NOT_FIT]
+    return answer([result])

@@ -2,6 +2,7 @@
 
 from exactmatrices.matrices import beside, turned, unit, unit_row
 from exactmatrices.quotients import all_multiplied, divided_row, lowest, scale_of, whole_row
+from exactmatrices.wholes import cleared_row
 
 
 class Elimination:
@@ -32,13 +33,6 @@ def exchanged(rows, place, other):
     result[place] = rows[other]
     result[other] = rows[place]
     return result
-
-
-def cleared_row(row, chosen, column, lead):
-    """The row made 0 in the column by the chosen row."""
-    head = chosen[column]
-    factor = row[column]
-    return [(head * x - factor * y) // lead for x, y in zip(row, chosen)]
 
 
 def cleared(rows, place, column, lead):

@@ -6,29 +6,19 @@ nothing new, no later one does. So it's enough to move on those columns that wer
 
 from exactmatrices.matrices import turned
 from exactmatrices.quotients import scale_of, scale_of_all, whole_row
-from exactmatrices.wholes import paired_total, row_divisor, shrunk_row
+from exactmatrices.wholes import cleared_row, first_place, paired_total, row_divisor, shrunk_row
 
 
 def rest_beside(column, kept, places):
     """What is left of a column when it is made 0 at the places of the kept ones; all 0 if it depends on them.
 
-    This is Bareiss' elimination, a column at a time: the division by the head before leaves no rest.
+    This is Bareiss' elimination, a column at a time.
     """
     before = 1
     for other, place in zip(kept, places):
-        head = other[place]
-        factor = column[place]
-        column = [(head * x - factor * y) // before for x, y in zip(column, other)]
-        before = head
+        column = cleared_row(column, other, place, before)
+        before = other[place]
     return column
-
-
-def first_place(column):
-    """The first place that isn't 0; as many as there are places if all are."""
-    place = 0
-    while place < len(column) and column[place] == 0:
-        place += 1
-    return place
 
 
 def moved_column(whole, base, column):

@@ -3,6 +3,14 @@
 from exactmatrices.quotients import common_divisor
 
 
+def first_place(row):
+    """The first place that isn't 0; as many as there are places if all are."""
+    place = 0
+    while place < len(row) and row[place] == 0:
+        place += 1
+    return place
+
+
 def paired_total(row, other):
     """The sum of the products of what stands at the same place."""
     return sum([x * y for x, y in zip(row, other)])
@@ -38,10 +46,20 @@ def row_divisor(row, number):
     return result
 
 
-def with_added(row, place, number):
+def cleared_row(row, chosen, place, before):
+    """The row made 0 at the place by the chosen row, by a divisor of what comes out.
+
+    In Bareiss' elimination the divisor is what the row chosen before had at its place.
+    """
+    head = chosen[place]
+    factor = row[place]
+    return [(head * x - factor * y) // before for x, y in zip(row, chosen)]
+
+
+def added_at(row, place, number):
     return [x + number if k == place else x for k, x in enumerate(row)]
 
 
 def with_diagonal(rows, number):
     """The rows with the number added all along the diagonal."""
-    return [with_added(row, k, number) for k, row in enumerate(rows)]
+    return [added_at(row, k, number) for k, row in enumerate(rows)]

@@ -1,6 +1,6 @@
 """Every call of the program, as functions of the lists alone: with numbers that are taken and with ones that are not."""
 
-from exactmatrices.desk import one, part, power, rank, reach, solve, total, two
+from exactmatrices.desk import one, part, poly, power, rank, reach, signs, solve, total, two
 
 FAR = 2 ** 64
 
@@ -11,6 +11,10 @@ def one_at(op):
 
 def two_at(op):
     return lambda a, b: two(op, a, b)
+
+
+def poly_at(op):
+    return lambda f, g: poly(op, f, g)
 
 
 def part_at(*place):
@@ -25,11 +29,12 @@ OF_ONE_LIST = (
     [one_at(op) for op in (-FAR, -1, 0, 1, 2, 3, 4, 5, 6, FAR)]
     + [part_at(*place) for place in ((0, 1, 0, 1), (1, 1, 0, 2), (-1, 1, 0, 1), (0, 1, 0, 0), (0, FAR, 0, FAR))]
     + [power_at(k) for k in (-FAR, -1, 0, 1, 2, 7, 65, FAR)]
-    + [rank]
+    + [rank, signs]
 )
 OF_TWO_LISTS = (
     [two_at(op) for op in (-FAR, -1, 0, 1, 2, 3, 4, 5, FAR)]
     + [solve, total, reach]
+    + [poly_at(op) for op in (-FAR, -1, 0, 1, 2, 3, 4, 5, 6, FAR)]
 )
 
 

@@ -27,6 +27,10 @@ def pairs():
         (source.small(5, 2), source.small(5, 3)),
         (source.poor(4, 4, 2), source.small(4, 4)),
         (source.small(9, 9), source.great(9, 9)),
+        ([3, 3, 0, 1, 1, 2, -1, 3, 1, 2, 0, 1, 5, 1, -1, 3, 5, 1, 0, 1], source.small(3, 2)),
+        (source.small(1, 9), source.great(1, 4)),
+        (source.great(1, 5), source.great(1, 5)),
+        (source.small(1, 3), [1, 2, 0, 1, 0, 1]),
         ([], [1, 1, 1, 0]),
         ([1, 1, 1, 1], [1]),
     ]
