@@ -3,12 +3,13 @@ a refusal alone, or 0 and behind it what is answered.
 """
 
 from exactmatrices.characteristic import characteristic
+from exactmatrices.circles import counts_by_circle
 from exactmatrices.echelons import determinant, inverse, kernel, rank_of, reduced_echelon
 from exactmatrices.forms import signs_of
 from exactmatrices.matrices import above, added, beside, is_square, part_of, product, subtracted, turned
 from exactmatrices.polynomials import common_of, multiplied, opposite, polynomial_from
 from exactmatrices.polynomials import quotient_of, rest_of, row_of, sum_of
-from exactmatrices.powers import raised
+from exactmatrices.powers import raised, worth_at
 from exactmatrices.reaching import reached
 from exactmatrices.systems import has_free_columns, has_no_solution, solution, system_of, total_from, total_system
 from exactmatrices.telling import GREATEST_SIDE, is_matrix, matrix_from, numbers_from
@@ -229,3 +230,27 @@ def poly(op, f, g):
     if len(result) > GREATEST_SIDE:
         return [NOT_FIT]
     return answer([result])
+
+
+def at(f, a):
+    """f's worth at the matrix a."""
+    if not is_matrix(f) or not is_matrix(a):
+        return [NO_MATRIX]
+    row = matrix_from(f)
+    matrix = matrix_from(a)
+    if len(row) > 1 or not is_square(matrix):
+        return [NOT_FIT]
+    return answer(worth_at(polynomial_from(row[0]), matrix))
+
+
+def circle(f):
+    """How many roots of f lie within the unit circle, on it, beyond it, each as often as it's one."""
+    if not is_matrix(f):
+        return [NO_MATRIX]
+    row = matrix_from(f)
+    if len(row) > 1:
+        return [NOT_FIT]
+    x = polynomial_from(row[0])
+    if x.whole == []:
+        return [NO_ANSWER]
+    return [0] + counts_by_circle(x.whole)

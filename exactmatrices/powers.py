@@ -1,7 +1,8 @@
-"""Powers of square matrices."""
+"""Powers of square matrices, and what polynomials are worth at them."""
 
 from exactmatrices.matrices import unit
-from exactmatrices.scaled import factor_from, moved, quotients_from, scaled_from, squared
+from exactmatrices.scaled import Scaled, factor_from, moved, quotients_from, scaled_from, squared
+from exactmatrices.wholes import with_diagonal
 
 
 def raised(a, k):
@@ -16,3 +17,14 @@ def raised(a, k):
         if (k >> place) % 2 == 1:
             result = moved(factor, result)
     return quotients_from(result)
+
+
+def worth_at(f, a):
+    """The polynomial f's worth at the square matrix a."""
+    factor = factor_from(a)
+    base = factor.base
+    result = Scaled([[0] * len(a) for row in a], 1, base)
+    for x in reversed(f.whole):
+        result = moved(factor, result)
+        result = Scaled(with_diagonal(result.rows, x * result.bottom), result.bottom, base)
+    return quotients_from(Scaled(result.rows, result.bottom * f.scale, base * f.scale))

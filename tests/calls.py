@@ -1,6 +1,6 @@
 """Every call of the program, as functions of the lists alone: with numbers that are taken and with ones that are not."""
 
-from exactmatrices.desk import one, part, poly, power, rank, reach, signs, solve, total, two
+from exactmatrices.desk import at, circle, one, part, poly, power, rank, reach, signs, solve, total, two
 
 FAR = 2 ** 64
 
@@ -29,11 +29,11 @@ OF_ONE_LIST = (
     [one_at(op) for op in (-FAR, -1, 0, 1, 2, 3, 4, 5, 6, FAR)]
     + [part_at(*place) for place in ((0, 1, 0, 1), (1, 1, 0, 2), (-1, 1, 0, 1), (0, 1, 0, 0), (0, FAR, 0, FAR))]
     + [power_at(k) for k in (-FAR, -1, 0, 1, 2, 7, 65, FAR)]
-    + [rank, signs]
+    + [rank, signs, circle]
 )
 OF_TWO_LISTS = (
     [two_at(op) for op in (-FAR, -1, 0, 1, 2, 3, 4, 5, FAR)]
-    + [solve, total, reach]
+    + [solve, total, reach, at]
     + [poly_at(op) for op in (-FAR, -1, 0, 1, 2, 3, 4, 5, 6, FAR)]
 )
 

@@ -31,6 +31,7 @@ def pairs():
         (source.small(1, 9), source.great(1, 4)),
         (source.great(1, 5), source.great(1, 5)),
         (source.small(1, 3), [1, 2, 0, 1, 0, 1]),
+        (source.great(1, 3), source.great(3, 3)),
         ([], [1, 1, 1, 0]),
         ([1, 1, 1, 1], [1]),
     ]
